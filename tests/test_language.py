@@ -94,6 +94,30 @@ class Language(unittest.TestCase):
                 if isinstance(node, ast.Call) and isinstance(node.func, ast.Attribute):
                     self.assertIn(node.func.attr, METHODS)
 
+    def test_no_local_is_called_like_an_import_or_a_class(self):
+        for path in FILES:
+            tree = ast.parse(path.read_text("utf-8"))
+            taken = {name.name for node in tree.body if isinstance(node, ast.ImportFrom) for name in node.names}
+            taken |= {node.name for node in tree.body if isinstance(node, ast.ClassDef)}
+            for node in ast.walk(tree):
+                with self.subTest(path=path.name, line=getattr(node, "lineno", 0)):
+                    if isinstance(node, ast.arg):
+                        self.assertNotIn(node.arg, taken)
+                    if isinstance(node, ast.Name) and isinstance(node.ctx, ast.Store):
+                        self.assertNotIn(node.id, taken)
+
+    def test_no_two_files_draw_from_one_another(self):
+        drawn = {}
+        for path in FILES:
+            body = ast.parse(path.read_text("utf-8")).body
+            drawn[path.stem] = {node.module.split(".")[1] for node in body if isinstance(node, ast.ImportFrom)}
+        for turn in drawn:
+            for name in drawn:
+                drawn[name] = drawn[name].union(*[drawn[other] for other in drawn[name]])
+        for name in drawn:
+            with self.subTest(name=name):
+                self.assertNotIn(name, drawn[name])
+
 
 if __name__ == "__main__":
     unittest.main()

@@ -29,10 +29,20 @@ class NoFind(unittest.TestCase):
         for call in OTHERS:
             with self.subTest(call=call):
                 self.assertEqual(
-                    ask(call, BEGIN, ORDERS, coin(0, 0, 0, 0), ORDERS), [[-9], [0], [1], [0], [1, 0]])
+                    ask(call, BEGIN, ORDERS, COINS, coin(1, 0, 2, 3), ORDERS, COINS),
+                    [[-9], [0], [1], [0], [0], [1, 0], [1, 0, 1, 0, 2, 3]])
 
     def test_coins_before_begin_take_no_room(self):
         self.assertEqual(ask(*APART, BEGIN, *APART)[8:], [[0]] + [[k] for k in range(8)])
+
+    def test_all_before_a_begin_change_nothing_behind_it(self):
+        behind = [
+            BEGIN, ANVILS, DIES, COINS, places(0), group(0), chain(0, 0), coin(0, 0, 0, 0), places(0), ANVILS, group(0),
+            chain(0, 0), DIES, COINS]
+        due = [
+            [0], [0], [0, 0, 0, 1, 0, 0, 0, 1], [0], [-2], [-2], [-2], [0], [0, 0], [1, 0], [1, 0],
+            [0, 0], [1, 1, 0, 1, 1, 1, 0, 1], [1, 0, 0, 0, 0, 0]]
+        self.assertEqual(ask(*OTHERS, *behind), [[-9]] * len(OTHERS) + due)
 
     def test_none_once_there_is_a_find(self):
         calls = [coin(0, 0, 0, 0), may(0, 0, 0, 0), lose(5), first(0, 0), ORDERS, lose(0), ORDERS]

@@ -1,4 +1,4 @@
-"""A coin, and when one coin is earlier than another one."""
+"""A coin, when one coin is earlier than another one, and when two are linked."""
 
 LAST_DIE = 7
 LAST_WEAR = 3
@@ -40,6 +40,15 @@ def earlier_by_back(coin, other):
 
 def earlier(coin, other):
     return earlier_by_face(coin, other) or earlier_by_back(coin, other)
+
+
+def linked(coin, other):
+    return coin.face == other.face or coin.back == other.back
+
+
+# As the coin was handed over, its number ahead.
+def told(coin):
+    return [coin.number, coin.face, coin.face_wear, coin.back, coin.back_wear]
 
 
 def numbers_of(coins):

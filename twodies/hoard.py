@@ -1,11 +1,20 @@
 """The calls on a find of coins, and what they answer."""
 
+from twodies.anvils import Striking
+from twodies.anvils import fewest_anvils
+from twodies.anvils import order_on_fewest
 from twodies.coins import is_coin
 from twodies.coins import make_coin
 from twodies.coins import numbers_of
+from twodies.coins import told
 from twodies.coins import without
+from twodies.dies import seen_dies
+from twodies.links import chain_between
+from twodies.links import group_of
 from twodies.orders import count_orders
 from twodies.orders import first_order
+from twodies.orders import first_place
+from twodies.orders import last_place
 from twodies.orders import row_to_itself
 from twodies.orders import surely_before
 
@@ -15,6 +24,7 @@ NOT_A_COIN = -1
 ONE_COIN_TWICE = -1
 NO_SUCH_COIN = -2
 FULL = -5
+NO_CHAIN = -6
 NO_ORDER = -7
 NO_FIND = -9
 
@@ -87,19 +97,62 @@ def answer_orders(find, numbers):
     return [count_orders(find.coins)] + numbers_of(first_order(find.coins))
 
 
-# By a call's number: how many numbers are handed to it, of all twelve calls, since without
-# a find each of them is passed over with a refusal.
+def answer_places(find, numbers):
+    coin = coin_numbered(find, numbers[0])
+    if coin is None:
+        return [NO_SUCH_COIN]
+    return [first_place(find.coins, coin), last_place(find.coins, coin)]
+
+
+def answer_anvils(find, numbers):
+    striking = Striking(find.coins)
+    return [fewest_anvils(striking)] + numbers_of(order_on_fewest(striking))
+
+
+def answer_group(find, numbers):
+    coin = coin_numbered(find, numbers[0])
+    if coin is None:
+        return [NO_SUCH_COIN]
+    group = group_of(find.coins, coin)
+    return [len(group)] + numbers_of(group)
+
+
+def answer_chain(find, numbers):
+    coin = coin_numbered(find, numbers[0])
+    other = coin_numbered(find, numbers[1])
+    if coin is None or other is None:
+        return [NO_SUCH_COIN]
+    chain = chain_between(find.coins, coin, other)
+    if chain is None:
+        return [NO_CHAIN]
+    return [len(chain) - 1] + numbers_of(chain)
+
+
+def answer_dies(find, numbers):
+    faces = [coin.face for coin in find.coins]
+    backs = [coin.back for coin in find.coins]
+    return seen_dies(faces) + seen_dies(backs)
+
+
+def answer_coins(find, numbers):
+    said = [len(find.coins)]
+    for coin in find.coins:
+        said.extend(told(coin))
+    return said
+
+
+# By a call's number: how many numbers are handed to it.
 SIZES = (0, 4, 4, 1, 2, 0, 1, 0, 1, 2, 0, 0)
 
 # By a call's number: what answers it, once there is a find.
-ANSWERS = (answer_begin, answer_coin, answer_may, answer_lose, answer_first, answer_orders)
+ANSWERS = (
+    answer_begin, answer_coin, answer_may, answer_lose, answer_first, answer_orders,
+    answer_places, answer_anvils, answer_group, answer_chain, answer_dies, answer_coins)
 
 
 def answer_call(find, call, numbers):
     if find is None:
         return [NO_FIND]
-    if call >= len(ANSWERS):
-        raise NotImplementedError("this call is not written yet")
     answer = ANSWERS[call]
     return answer(find, numbers)
 

@@ -5,42 +5,28 @@ Coins are handed over as a list in which their numbers rise.
 
 from twodies.coins import earlier
 from twodies.coins import without
-
-
-# The coins that lie between start and goal, each earlier than the next one: the fewest,
-# and of as few the first; None if start doesn't lead to goal at all.
-def row_between(coins, start, goal):
-    reached = {}
-    rows = [[start]]
-    while rows:
-        for row in rows:
-            if earlier(row[-1], goal):
-                return row[1:]
-        rows = longer_rows(coins, rows, reached)
-    return None
-
-
-# Rows of one length stay in their order, so the first that reaches a coin is the first of
-# the shortest ones to it, and no later one is needed.
-def longer_rows(coins, rows, reached):
-    longer = []
-    for row in rows:
-        for coin in coins:
-            if coin.number not in reached and earlier(row[-1], coin):
-                reached[coin.number] = True
-                longer.append(row + [coin])
-    return longer
+from twodies.rows import row_between
 
 
 # Where no row leads from one coin to the other, some order has them the other way round.
 def surely_before(coins, coin, other):
-    return row_between(coins, coin, other) is not None
+    return row_between(coins, coin, other, earlier) is not None
 
 
 # With a coin that would have to be earlier than itself there is no order: the coins that
 # lead from it back to it, or None. The coins that are there have an order without it.
 def row_to_itself(coins, coin):
-    return row_between(coins, coin, coin)
+    return row_between(coins, coin, coin, earlier)
+
+
+# Some order has a coin as soon as just those that are surely before it were struck.
+def first_place(coins, coin):
+    return len([other for other in coins if surely_before(coins, other, coin)])
+
+
+def last_place(coins, coin):
+    behind = [other for other in coins if surely_before(coins, coin, other)]
+    return len(coins) - 1 - len(behind)
 
 
 # A bit stands for a place in the list of coins, as numbers of coins may be large.
